@@ -1,0 +1,1 @@
+"""Armwarrant: robot arms that share a cell and never touch."""

@@ -1,0 +1,1 @@
+"""Vectors, gaps, lines and boxes."""
