@@ -127,6 +127,11 @@ class TestFlatParts(BoxCase):
     def test_one_before_the_beginning_does_not_exist(self):
         self.check(((12, 14, 5), (6, 20, 5)), (2, 4, 0), 1)
 
+    def test_one_behind_its_neighbours_does_not_exist(self):
+        # Before 10 / 20, x and y are outside: 1400 / 2000 lies behind. Between 26 / 40 and 18 / 20,
+        # x and z are: 560 / 800 lies there, at the same place of the line, but has a scale of its own.
+        self.check(((118, 126, 90), (98, 86, 110)), (3200, 0, 3200), 800, (0, 0, 0), (100, 100, 100))
+
     def test_one_with_the_denominator_zero_does_not_exist(self):
         self.check(((2, 20, 15), (8, 20, 15)), (0, 10, 5), 1)
         self.check(((-5, 12, 13), (15, 12, 13)), (0, 40, 60), 20)

@@ -17,6 +17,17 @@ FUNCTIONS = {
     "armwarrant.shapes.gaps": {"place_gap": "(place, start, end)"},
     "armwarrant.shapes.lines": {"line_gap": "(first, second)"},
     "armwarrant.shapes.boxes": {"box_gap": "(line, low, high)"},
+    "armwarrant.shapes.parting": {
+        "direction": "(vector)",
+        "parts_places": "(way, first, second, reach)",
+        "corners": "(low, high)",
+    },
+    "armwarrant.arms.frames": {
+        "true_place": "(arm, values, offsets, link, point)",
+        "spot": "(arm, row, link, point)",
+        "unknown": "(arm, halves, link, body)",
+    },
+    "armwarrant.arms.moves": {"lower": "(part)", "upper": "(part)"},
 }
 
 CLASSES = {
@@ -26,6 +37,26 @@ CLASSES = {
             "beyond": "(self, distance)",
             "within": "(self, distance)",
             "shorter": "(self, other)",
+        },
+    },
+    "armwarrant.arms.joints": {
+        "Joint": {
+            "__init__": (
+                "(self, turns, axis, offset, least, most, *, box=0, error=0, speed=1, accel=1, brake=1)"
+            ),
+        },
+    },
+    "armwarrant.arms.arm": {
+        "Body": {"__init__": "(self, first, last, radius)"},
+        "Capsule": {"__init__": "(self, link, body)"},
+        "Arm": {"__init__": "(self, joints, capsules, *, beside=())", "fits": "(self, row)"},
+    },
+    "armwarrant.arms.moves": {
+        "Move": {
+            "__init__": "(self, arm, first, last)",
+            "middle": "(self, part)",
+            "halves": "(self, depth)",
+            "slack": "(self)",
         },
     },
 }

@@ -22,6 +22,22 @@ class TestLineGap(unittest.TestCase):
         # u = (4, 0, 0), v = (1, 2, 0), w = (0, -1, 3): n = 64, s = 8, t = 32 lie at 1 / 8 and 1 / 2.
         self.check(((0, 0, 3), (4, 0, 3)), ((0, -1, 0), (1, 1, 0)), (0, 0, 192), 64)
 
+    def test_inside_both_lines_one_part_from_an_end(self):
+        # u = (-1, -1, -1), v = (-1, 0, 2), n = 14; s is 1 or 13, or t is 1 or 13.
+        second = ((0, 0, 0), (-1, 0, 2))
+        self.check(((0, -1, 2), (-1, -2, 1)), second, (10, -15, 5), 14)
+        self.check(((0, 2, 1), (-1, 1, 0)), second, (-10, 15, -5), 14)
+        self.check(((1, 0, 1), (0, -1, 0)), second, (6, -9, 3), 14)
+        self.check(((-1, 1, 2), (-2, 0, 1)), second, (-6, 9, -3), 14)
+
+    def test_an_end_of_one_line_beside_the_inside_of_the_other_one(self):
+        # s or t is 0 or n, so the gap is that of the end, with the scale of the other line.
+        across = ((-3, 0, 2), (4, 0, 2))
+        self.check(((0, 0, 0), (0, 9, 0)), across, (0, 0, -98), 49)
+        self.check(((0, 9, 0), (0, 0, 0)), across, (0, 0, -98), 49)
+        self.check(across, ((0, 0, 0), (0, 9, 0)), (0, 0, 98), 49)
+        self.check(across, ((0, 9, 0), (0, 0, 0)), (0, 0, 98), 49)
+
     def test_crossing(self):
         self.check(((-2, 0, 0), (2, 0, 0)), ((0, -3, 0), (0, 3, 0)), (0, 0, 0), 576)
 

@@ -1,0 +1,1 @@
+"""Joints, arms, the places of their points, and moves."""
