@@ -1,0 +1,1 @@
+"""Solids, matters, the judge of certificates, and the finder."""

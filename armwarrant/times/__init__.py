@@ -1,0 +1,1 @@
+"""How long moves and stops last, and how far an arm has come."""
