@@ -28,6 +28,39 @@ FUNCTIONS = {
         "unknown": "(arm, halves, link, body)",
     },
     "armwarrant.arms.moves": {"lower": "(part)", "upper": "(part)"},
+    "armwarrant.judge.judging": {"judge": "(matter, tree)", "is_meeting": "(matter, first, second)"},
+    "armwarrant.judge.finding": {"find_verdict": "(matter, depth)"},
+    "armwarrant.judge.margins": {
+        "wider": "(matter, width)",
+        "margin": "(matter, depth)",
+        "depth_for": "(mover, gap)",
+    },
+    "armwarrant.times.rates": {"least_micros": "(arm, move, *, done=0)"},
+    "armwarrant.times.moments": {
+        "moment": "(arm, move, micros, *, done=0)",
+        "stop_from": "(arm, move, micros, *, done=0)",
+        "longest_stop": "(arm, move)",
+        "each_alone": "(arm, move)",
+    },
+    "armwarrant.people.zones": {
+        "extent": "(mover, direction, depth)",
+        "zone": "(mover, directions, margin, depth)",
+        "is_fenced": "(mover, sides, margin, depth)",
+        "walked": "(speed, micros)",
+    },
+    "armwarrant.programs.words": {
+        "split_words": "(text)",
+        "is_name": "(word)",
+        "read_count": "(word)",
+    },
+    "armwarrant.programs.reading": {"read_program": "(text)"},
+}
+
+SOLID = {
+    "is_beyond": "(self, line, radius)",
+    "is_within": "(self, line, radius)",
+    "way_from": "(self, line)",
+    "is_parted": "(self, way, line, radius)",
 }
 
 CLASSES = {
@@ -57,6 +90,28 @@ CLASSES = {
             "middle": "(self, part)",
             "halves": "(self, depth)",
             "slack": "(self)",
+        },
+    },
+    "armwarrant.judge.solids": {
+        "Block": {"__init__": "(self, first, last, radius)", **SOLID},
+        "Box": {"__init__": "(self, low, high, radius)", **SOLID},
+        "Wall": {"__init__": "(self, normal, bound)", **SOLID},
+    },
+    "armwarrant.judge.matters": {
+        "Mover": {
+            "__init__": "(self, arm, move, held=())",
+            "bodies": "(self)",
+            "lines": "(self, part)",
+            "unknowns": "(self, halves)",
+        },
+        "Matter": {"__init__": "(self, kind, mover, other=None)", "pairs": "(self)"},
+    },
+    "armwarrant.judge.finding": {"Verdict": {"told": "(self)"}},
+    "armwarrant.programs.program": {
+        "Program": {
+            "__init__": "(self, routines, body)",
+            "routine": "(self, name)",
+            "__eq__": "(self, other)",
         },
     },
 }

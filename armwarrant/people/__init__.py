@@ -1,0 +1,1 @@
+"""How far arms reach, and the zones that keep people from them."""

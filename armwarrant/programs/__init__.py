@@ -1,0 +1,1 @@
+"""The programs of arms, and how they are read."""
