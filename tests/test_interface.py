@@ -54,6 +54,19 @@ FUNCTIONS = {
         "read_count": "(word)",
     },
     "armwarrant.programs.reading": {"read_program": "(text)"},
+    "armwarrant.programs.writing": {"write_program": "(program)"},
+    "armwarrant.programs.flows": {
+        "flow_of": "(program)",
+        "landing": "(flow, index)",
+        "points_of": "(flow)",
+        "signals_of": "(flow)",
+        "parts_of": "(flow)",
+    },
+    "armwarrant.programs.deeds": {
+        "deeds_of_program": "(program, readings)",
+        "deeds_of_flow": "(flow, readings)",
+    },
+    "armwarrant.order.safety": {"is_safe": "(plan, state)", "safe_arm": "(plan, state)"},
 }
 
 SOLID = {
@@ -114,7 +127,25 @@ CLASSES = {
             "__eq__": "(self, other)",
         },
     },
+    "armwarrant.order.plan": {
+        "Plan": {
+            "__init__": "(self, flows, starts, *, blocked=())",
+            "is_clear": "(self, arm, place, other, other_place)",
+            "first_state": "(self)",
+            "step_of": "(self, state, arm)",
+            "has_ended": "(self, state, arm)",
+            "all_ended": "(self, state)",
+            "rest_of": "(self, state, arm)",
+            "wanted": "(self, state, arm)",
+            "hindered_by": "(self, state, arm)",
+            "can_step": "(self, state, arm)",
+            "outcomes": "(self, state, arm)",
+            "steps_left": "(self, state)",
+        },
+    },
 }
+
+PROPERTIES = {"armwarrant.order.plan": {"Plan": ["width"]}}
 
 
 class TestInterface(unittest.TestCase):
@@ -136,6 +167,13 @@ class TestInterface(unittest.TestCase):
                     with self.subTest(module=module, name=name, method=method):
                         self.assertIn(method, vars(found))
                         self.assertEqual(str(inspect.signature(vars(found)[method])), arguments)
+
+    def test_properties(self):
+        for module, classes in PROPERTIES.items():
+            for name, properties in classes.items():
+                found = getattr(importlib.import_module(module), name)
+                for word in properties:
+                    self.assertIsInstance(vars(found)[word], property)
 
 
 if __name__ == "__main__":
