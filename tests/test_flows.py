@@ -220,7 +220,8 @@ class TestTooLong(unittest.TestCase):
     def test_call_counts_1_and_the_statements_of_the_routine(self):
         self.check_length(lambda n: "routine a { } " + "call a " * n, 200)
         self.check_length(lambda n: "routine a { move p move q } " + "call a " * n, 66)
-        self.check_length(lambda n: f"routine a {{ call b }} routine b {{ move p }} repeat {n} {{ call a }} release", 66)
+        routines = "routine a { call b } routine b { move p } "
+        self.check_length(lambda n: f"{routines} repeat {n} {{ call a }} release", 66)
         self.check_length(lambda n: "routine a { " + "move p " * n + "} call a", 199)
 
     def test_routines_that_are_never_called_do_not_count(self):

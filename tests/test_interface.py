@@ -3,6 +3,10 @@ import importlib
 import inspect
 import unittest
 
+from armwarrant.cell.cell import Cell
+from armwarrant.order.plan import Plan
+from armwarrant.runner.runner import Runner
+
 FUNCTIONS = {
     "armwarrant.shapes.vectors": {
         "root_up": "(number)",
@@ -67,6 +71,17 @@ FUNCTIONS = {
         "deeds_of_flow": "(flow, readings)",
     },
     "armwarrant.order.safety": {"is_safe": "(plan, state)", "safe_arm": "(plan, state)"},
+    "armwarrant.order.failure": {"what_holds_up": "(plan, state)", "how_it_fails": "(plan, state)"},
+    "armwarrant.papers.certificates": {
+        "write_certificate": "(matter, tree)",
+        "write_meeting": "(matter, first, second)",
+        "read_certificate": "(text)",
+        "read_meeting": "(text)",
+        "is_certificate": "(text)",
+        "is_sure_meeting": "(text)",
+    },
+    "armwarrant.papers.cells": {"write_contents": "(contents)", "read_contents": "(text)"},
+    "armwarrant.papers.warrants": {"write_warrant": "(cell)", "is_warrant": "(text)"},
 }
 
 SOLID = {
@@ -143,9 +158,50 @@ CLASSES = {
             "steps_left": "(self, state)",
         },
     },
+    "armwarrant.cell.cell": {
+        "Cell": {
+            "__init__": "(self)",
+            "edit": "(self, edits)",
+            "undo": "(self)",
+            "redo": "(self)",
+            "verdict": "(self, question)",
+            "flaws": "(self)",
+            "problems": "(self)",
+            "arms_in_order": "(self)",
+            "is_runnable": "(self)",
+            "make_plan": "(self)",
+            "start_runner": "(self)",
+        },
+    },
+    "armwarrant.runner.runner": {
+        "Runner": {
+            "__init__": "(self, plan)",
+            "may": "(self, arm)",
+            "begin": "(self, arm)",
+            "end": "(self, arm)",
+            "go_on": "(self, arm)",
+            "halt": "(self, arm)",
+            "free": "(self, arm)",
+            "read_input": "(self, arm, *, on)",
+            "place_of": "(self, arm)",
+            "is_halted": "(self, arm)",
+            "is_under_way": "(self, arm)",
+            "state_ahead": "(self)",
+            "fork": "(self)",
+        },
+    },
 }
 
-PROPERTIES = {"armwarrant.order.plan": {"Plan": ["width"]}}
+PROPERTIES = {
+    "armwarrant.order.plan": {"Plan": ["width"]},
+    "armwarrant.runner.runner": {"Runner": ["is_over"]},
+}
+
+# What is set on each object when it is created.
+FIELDS = [
+    (Plan([[]], ["p"]), "flows starts"), (Cell(), "contents questions"),
+    (Cell().contents, "arms solids parts points tasks depth"), (Runner(Plan([[]], ["p"])), "plan state events"),
+]
 
 
 class TestInterface(unittest.TestCase):
@@ -167,6 +223,10 @@ class TestInterface(unittest.TestCase):
                     with self.subTest(module=module, name=name, method=method):
                         self.assertIn(method, vars(found))
                         self.assertEqual(str(inspect.signature(vars(found)[method])), arguments)
+
+    def test_fields(self):
+        for found, names in FIELDS:
+            self.assertLessEqual(set(names.split()), set(vars(found)))
 
     def test_properties(self):
         for module, classes in PROPERTIES.items():

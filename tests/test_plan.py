@@ -220,7 +220,8 @@ class TestSteps(unittest.TestCase):
 
     def test_if(self):
         for at, index in ((2, 4), (3, 3), (4, 4), (5, 7), (6, 7), (7, 7)):
-            self.check(("if", "i", at), ("p", "x"), True, [((4, "p", "x"), ("s",)), ((index, "p", "x"), ("s",))], ("s",))
+            after = [((4, "p", "x"), ("s",)), ((index, "p", "x"), ("s",))]
+            self.check(("if", "i", at), ("p", "x"), True, after, ("s",))
 
     def test_an_arm_that_has_ended(self):
         plan = Plan([MOVES, [("wait", "s", True)]], ["p", "p"])

@@ -85,7 +85,8 @@ class TestStatements(WritingCase):
         self.check([], rows("routine a {", "}"), [("a", [])])
         self.check(
             [("call", "b"), MOVE],
-            rows("routine b {", "  release", "  if i {", "    move p", "  }", "}", "routine a {", "}", "call b", "move p"),
+            rows("routine b {", "  release", "  if i {", "    move p", "  }", "}", "routine a {", "}",
+                 "call b", "move p"),
             [("b", [RELEASE, ("if", "i", [MOVE], [])]), ("a", [])],
         )
         names = [f"r{k}" for k in range(12)]
@@ -116,7 +117,8 @@ class TestReadAgain(WritingCase):
 
     def test_equal_programs_are_written_alike(self):
         texts = [
-            "routine a{move p}if i{release}else{}repeat 2{}", "\n# x\nroutine a { move p }\tif i { release }repeat 2 { }",
+            "routine a{move p}if i{release}else{}repeat 2{}",
+                "\n# x\nroutine a { move p }\tif i { release }repeat 2 { }",
         ]
         first, second = (read_program(text) for text in texts)
         self.assertEqual(first, second)

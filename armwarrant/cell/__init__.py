@@ -1,0 +1,1 @@
+"""The cell: its contents, their edits, and the questions about what could touch."""

@@ -1,0 +1,1 @@
+"""Papers: certificates, meetings, cells and warrants as texts."""

@@ -1,0 +1,1 @@
+"""The controller of a plan while it runs."""
